@@ -63,7 +63,7 @@ func TestP4_5NothingMattersBehind(t *testing.T) {
 		}
 		for _, tail := range append(hold, rightText(rnd, 3)) {
 			l, q, f := scan.Words(s[:p.Byte+1] + tail)
-			if len(l) > 0 || q.Byte != p.Byte || q.Line != p.Line || f != api.ErrWord {
+			if len(l) > 0 || q != p || f != api.ErrWord {
 				t.Errorf("%q and %q: %+v, %+v, %v", s, tail, l, q, f)
 			}
 		}
